@@ -25,6 +25,26 @@ def rank(account, r):
     return (5, account, r)
 
 
+def part(account, p, q):
+    return (6, account, p, q)
+
+
+def up_to(account, v):
+    return (7, account, v)
+
+
+def account(number):
+    return (8, number)
+
+
+def buckets(number):
+    return (9, number)
+
+
+def edges(i):
+    return (10, i)
+
+
 def flat(calls):
     return [number for call in calls for number in call]
 

@@ -5,8 +5,11 @@ together is putting lists together, and which buckets are kept is read from the 
 """
 
 from fractions import Fraction
+from functools import cache
+from math import floor
 
 
+@cache
 def end(k, i):
     return (k + 1) ** i // (k - 1) ** i
 
@@ -15,17 +18,19 @@ def begin(k, i):
     return 1 if i == 0 else end(k, i - 1) + 1
 
 
-ENDS = {}
+@cache
+def all_ends(k):
+    ends = [1]
+    while ends[-1] < 10 ** 9:
+        ends.append(end(k, len(ends)))
+    return ends
 
 
+@cache
 def bucket(k, value):
     """The one bucket that has the value between its beginning and its end."""
-    if k not in ENDS:
-        ends = [1]
-        while ends[-1] < 10 ** 9:
-            ends.append(end(k, len(ends)))
-        ENDS[k] = ends
-    found = [i for i, last in enumerate(ENDS[k]) if value <= last and (i == 0 or value > ENDS[k][i - 1])]
+    ends = all_ends(k)
+    found = [i for i, last in enumerate(ends) if value <= last and (i == 0 or value > ends[i - 1])]
     assert len(found) == 1
     return found[0]
 
@@ -37,6 +42,10 @@ class Values:
         self.k = k
         self.m = m
         self.times = {}
+
+    def tell(self, value, times):
+        if times:
+            self.times[value] = self.times.get(value, 0) + times
 
     def count(self):
         return sum(self.times.values())
@@ -61,18 +70,38 @@ class Values:
     def in_lowest_of_cut(self, value):
         return value > 0 and self.cut() and bucket(self.k, value) <= self.kept()[0]
 
-    def ends_at(self, rank):
-        value = self.value_at(rank)
+    def counted_in(self, value):
+        return max(bucket(self.k, value), self.kept()[0])
+
+    def ends_of(self, value):
         if value == 0:
             return 0, 0
-        counted = max(bucket(self.k, value), self.kept()[0])
+        counted = self.counted_in(value)
         low = 1 if self.in_lowest_of_cut(value) else begin(self.k, counted)
         return max(low, min(self.times)), min(end(self.k, counted), max(self.times))
 
     def rank(self, rank):
-        x, y = self.ends_at(rank)
+        x, y = self.ends_of(self.value_at(rank))
         between = Fraction(2 * x * y, x + y) if y else Fraction(0)
         return [rank, x, y, between.numerator, between.denominator]
+
+    def up_to(self, v):
+        """Value by value, not bucket by bucket."""
+        ends = [(self.ends_of(value), times) for value, times in self.times.items()]
+        return [sum(times for (x, y), times in ends if y <= v), sum(times for (x, y), times in ends if x <= v)]
+
+    def account(self):
+        total = sum(value * times for value, times in self.times.items())
+        least, greatest = (min(self.times), max(self.times)) if self.times else (0, 0)
+        return [self.count(), self.times.get(0, 0), total, least, greatest, int(self.cut())]
+
+    def told_buckets(self):
+        kept = self.kept()
+        counts = dict.fromkeys(kept, 0)
+        for value, times in self.times.items():
+            if value > 0:
+                counts[self.counted_in(value)] += times
+        return [len(kept)] + [number for i in kept for number in (i, counts[i])]
 
 
 class Model:
@@ -92,8 +121,7 @@ class Model:
         if value > 10 ** 9 or times > 10 ** 6:
             return [-1]
         values = self.accounts[account]
-        if times:
-            values.times[value] = values.times.get(value, 0) + times
+        values.tell(value, times)
         return [values.count(), len(values.kept())]
 
     def join(self, account, other):
@@ -103,7 +131,7 @@ class Model:
             return [-1]
         values = self.accounts[account]
         for value, times in self.accounts[other].times.items():
-            values.times[value] = values.times.get(value, 0) + times
+            values.tell(value, times)
         return [values.count(), len(values.kept())]
 
     def clear(self, account):
@@ -119,6 +147,31 @@ class Model:
             return [-3]
         return self.accounts[account].rank(r)
 
+    def part(self, account, p, q):
+        if account >= len(self.accounts):
+            return [-2]
+        if q == 0 or p > q:
+            return [-1]
+        count = self.accounts[account].count()
+        if count == 0:
+            return [-3]
+        return self.accounts[account].rank(floor(Fraction(p, q) * (count - 1)))
+
+    def up_to(self, account, v):
+        return self.accounts[account].up_to(v) if account < len(self.accounts) else [-2]
+
+    def account(self, account):
+        return self.accounts[account].account() if account < len(self.accounts) else [-2]
+
+    def buckets(self, account):
+        return self.accounts[account].told_buckets() if account < len(self.accounts) else [-2]
+
+    def edges(self, i):
+        if i > 1000 or end(self.k, i) > 10 ** 18:
+            return [-1]
+        return [begin(self.k, i), end(self.k, i)]
+
     def answer(self, call):
-        names = {1: self.begin, 2: self.add, 3: self.join, 4: self.clear, 5: self.rank}
+        names = {1: self.begin, 2: self.add, 3: self.join, 4: self.clear, 5: self.rank,
+                 6: self.part, 7: self.up_to, 8: self.account, 9: self.buckets, 10: self.edges}
         return names[call[0]](*call[1:])

@@ -2,11 +2,13 @@
 
 import unittest
 
-from lines import TOP, add, begin, clear, flat, join, rank
+from lines import TOP, account, add, ask, begin, buckets, clear, edges, flat, join, part, rank, up_to
 from widebuckets.house import answers
 
 LINE = flat([begin(3, 2, 2), add(0, 1, 3), add(0, 6), add(0, 20), add(1, 0), join(1, 0), rank(1, 0), rank(1, 4),
-             clear(0), rank(0, 0), add(TOP, TOP, TOP), begin(10, 20, 7), add(1, 10 ** 9, 10 ** 6)])
+             clear(0), rank(0, 0), add(TOP, TOP, TOP), begin(10, 20, 7), add(1, 10 ** 9, 10 ** 6),
+             part(1, 1, 2), part(1, 2, 1), part(0, 0, 1), up_to(1, 6), up_to(2, 6), account(1), account(TOP),
+             buckets(1), buckets(2), edges(4), edges(TOP)])
 
 
 class Watched(list):
@@ -23,6 +25,14 @@ class Interface(unittest.TestCase):
     def test_counts_stand_ahead_of_answers(self):
         self.assertEqual(answers(flat([add(0, 0), rank(0, 0), rank(0, 1), clear(0), join(0, 0), begin(3, 1, 1)])),
                          [2, 1, 0, 5, 0, 0, 0, 0, 1, 1, -3, 1, 0, 1, -1, 1, 0])
+
+    def test_how_many_numbers_each_call_answers(self):
+        calls = [begin(3, 2, 2), add(0, 6), add(0, 3), join(1, 0), clear(0), rank(1, 0), part(1, 1, 1), up_to(1, 5),
+                 account(1), buckets(1), edges(7)]
+        self.assertEqual([len(answer) for answer in ask(*calls)], [1, 2, 2, 2, 1, 5, 5, 2, 6, 5, 2])
+        self.assertEqual(answers(flat(calls)),
+                         [1, 0, 2, 1, 1, 2, 2, 2, 2, 2, 2, 1, 0, 5, 0, 3, 4, 24, 7, 5, 1, 5, 6, 60, 11, 2, 1, 2,
+                          6, 2, 0, 9, 3, 6, 0, 5, 2, 2, 1, 3, 1, 2, 65, 128])
 
     def test_a_list_of_whole_numbers_is_given_back(self):
         given = answers(list(LINE))
@@ -55,3 +65,13 @@ class Interface(unittest.TestCase):
     def test_sixty_calls(self):
         self.assertEqual(answers([2, 0, 10 ** 9, 10 ** 6] * 60)[-3:], [2, 60 * 10 ** 6, 1])
         self.assertEqual(answers([1, 40, 200, 6] * 60), [1, 0] * 60)
+        self.assertEqual(answers([6, 0, 0, 1] * 60), [1, -3] * 60)
+        self.assertEqual(answers([2, 0, 7, 1] + [6, 0, TOP, TOP] * 59), [2, 1, 1] + [5, 0, 7, 7, 7, 1] * 59)
+        self.assertEqual(answers([10, 0] * 60), [2, 1, 1] * 60)
+
+    def test_each_call_alone(self):
+        for call, given in ((begin(3, 1, 1), [1, 0]), (add(0, 1), [2, 1, 1]), (join(0, 0), [1, -1]),
+                            (clear(0), [1, 0]), (rank(0, 0), [1, -3]), (part(0, 1, 1), [1, -3]),
+                            (up_to(0, 1), [2, 0, 0]), (account(0), [6, 0, 0, 0, 0, 0, 0]), (buckets(0), [1, 0]),
+                            (edges(0), [2, 1, 1])):
+            self.assertEqual(answers(list(call)), given)

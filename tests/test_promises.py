@@ -1,27 +1,13 @@
-"""The promises 1, 2 and 4, and whole lines against a house that keeps every value."""
+"""The promises 1, 2 and 4, of what accounts keep and of their ranks."""
 
 import random
 import unittest
 from fractions import Fraction
 
-from lines import TOP, add, ask, begin, clear, join, rank
-from model import Model, Values, bucket
+from lines import add, ask, begin, join, rank
+from model import Values, bucket
+from samples import FINENESSES, some_values
 from widebuckets.account import Account
-
-FINENESSES = (3, 4, 5, 10, 25, 39, 40)
-
-
-def some_value(source):
-    kind = source.randrange(6)
-    if kind == 0:
-        return source.choice((0, 0, 1, 2, 3, 10 ** 9, 10 ** 9 - 1))
-    if kind < 3:
-        return source.randrange(0, 40)
-    return source.randrange(0, 10 ** source.randrange(1, 10)) + source.randrange(2)
-
-
-def some_values(source, count):
-    return [some_value(source) for _ in range(count)]
 
 
 def seen(account):
@@ -123,7 +109,7 @@ class ValueOfRankLiesBetween(unittest.TestCase):
     def check(self, k, m, values):
         known = Values(k, m)
         for value in values:
-            known.times[value] = known.times.get(value, 0) + 1
+            known.tell(value, 1)
         given = ask(begin(k, m, 1), *[add(0, v) for v in values], *[rank(0, r) for r in range(len(values))])
         for r, (value, answer) in enumerate(zip(sorted(values), given[1 + len(values):], strict=True)):
             place, low, high, top, bottom = answer
@@ -176,38 +162,3 @@ class HighestBucketsAreKept(unittest.TestCase):
         self.assertEqual((len(account.counts), account.is_cut), (200, False))
         account.tell(values[0], 1)
         self.assertEqual((len(account.counts), account.is_cut, account.counts[201]), (200, True, 2))
-
-
-class AgainstTheModel(unittest.TestCase):
-    def some_call(self, source, accounts):
-        def account():
-            return source.randrange(accounts) if source.randrange(12) else source.choice((accounts, 6, TOP))
-        kind = source.randrange(20)
-        if kind < 9:
-            times = source.choice((0, 1, 1, 1, 2, 3, 5, 10 ** 6, 10 ** 6 + 1))
-            value = some_value(source) if source.randrange(12) else source.choice((10 ** 9 + 1, TOP))
-            return add(account(), value, times)
-        if kind < 12:
-            return join(account(), account())
-        if kind < 13:
-            return clear(account())
-        if source.randrange(40) == 0:
-            return begin(source.randrange(2, 42), source.choice((0, 1, 2, 200, 201)), source.randrange(0, 8))
-        return rank(account(), source.choice((0, 1, 2, 3, 4, 5, 8, 12, 10 ** 6, 10 ** 6 + 2, TOP)))
-
-    def some_line(self, source, begins):
-        calls = []
-        accounts = 1
-        if begins:
-            accounts = source.randrange(1, 7)
-            calls.append(begin(source.choice(FINENESSES), source.choice((1, 2, 3, 4, 8, 200)), accounts))
-        while len(calls) < 60:
-            calls.append(self.some_call(source, accounts))
-        return calls
-
-    def test_many_lines(self):
-        source = random.Random(6)
-        for turn in range(1500):
-            calls = self.some_line(source, turn % 5 > 0)
-            house = Model()
-            self.assertEqual(ask(*calls), [house.answer(call) for call in calls], calls)

@@ -1,4 +1,4 @@
-"""Between which two the value of a rank lies, and the number between."""
+"""Between which two the value of a rank lies, the number between, and how many values are up to one."""
 
 from widebuckets.buckets import bucket_begin, bucket_end
 
@@ -7,6 +7,18 @@ def told_of_rank(account, rank):
     """The rank, the two, and the number between as a fraction, for a rank that the account has."""
     ends = ends_of_rank(account, rank)
     return [rank] + ends + number_between(ends[0], ends[1])
+
+
+def told_up_to(account, value):
+    """Of how many values it's sure that they're at most this one, and of how many it may be."""
+    sure = account.zeros
+    maybe = account.zeros
+    for number in account.counts:
+        if greater_end(account, number) <= value:
+            sure += account.counts[number]
+        if lesser_end(account, number) <= value:
+            maybe += account.counts[number]
+    return [sure, maybe]
 
 
 def ends_of_rank(account, rank):
